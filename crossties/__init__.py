@@ -1,0 +1,1 @@
+"""Things that move on a map and stay near one another."""

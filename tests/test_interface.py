@@ -1,0 +1,53 @@
+"""The names of the interface stand where it lists them, and are called as it says."""
+
+import ast
+import pathlib
+import unittest
+
+PACKAGE = pathlib.Path(__file__).resolve().parent.parent / "crossties"
+
+FUNCTIONS = {
+    "words": {"is_word": 1, "is_number": 1},
+    "maps": {
+        "pieces_of": 1, "part_map": 2, "map_without": 2, "joined_maps": 2, "both_near": 3, "with_tie": 3,
+        "without_tie": 3},
+    "lexemes": {"lexemes": 1},
+    "maptexts": {"map_text": 1, "read_map": 1},
+}
+
+# The numbers count the object itself.
+CLASSES = {
+    "errors": {
+        "TieError": {}, "UnlikeMaps": {}, "UnlikeParties": {}, "TooGreat": {}, "NothingDone": {}, "BadMap": {},
+        "BadParty": {}, "BadStand": {}, "BadLists": {}, "BadRoads": {}, "BadMade": {}, "NotGood": {}, "NoRoad": {},
+        "BadStep": {}, "BadOrder": {}, "BadText": {}, "BadAct": {}, "NameMissing": {}, "UnknownName": {}},
+    "maps": {
+        "Map": {
+            "__init__": 3, "posts": 1, "ties": 1, "number": 2, "is_near": 3, "near": 2, "tied": 2, "__eq__": 2}},
+}
+
+
+def body_of(name):
+    return ast.parse((PACKAGE / f"{name}.py").read_text(encoding="ascii")).body
+
+
+def arities(body):
+    """The functions that are defined in a body, with the number of their arguments."""
+    return {node.name: len(node.args.args) for node in body if isinstance(node, ast.FunctionDef)}
+
+
+class InterfaceTest(unittest.TestCase):
+    def test_functions(self):
+        for module, wanted in FUNCTIONS.items():
+            found = arities(body_of(module))
+            for name, many in wanted.items():
+                self.assertEqual(found.get(name), many, f"{module}.{name}")
+
+    def test_classes_and_their_methods(self):
+        for module, wanted in CLASSES.items():
+            found = {node.name: node.body for node in body_of(module) if isinstance(node, ast.ClassDef)}
+            for name, methods in wanted.items():
+                self.assertIn(name, found, module)
+                defined = arities(found[name])
+                for method, many in methods.items():
+                    self.assertEqual(defined.get(method), many, f"{module}.{name}.{method}")
