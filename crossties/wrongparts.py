@@ -18,6 +18,16 @@ def wrong_word(values):
     return None
 
 
+def wrong_choice(values, known):
+    """Return the number of the first value that is no key of known or stands earlier, or None."""
+    earlier = {}
+    for k, value in enumerate(values):
+        if not is_word(value) or value not in known or value in earlier:
+            return k
+        earlier[value] = True
+    return None
+
+
 def wrong_member(pair, known):
     """Return the number of the first member of a pair that is no key of known, or None."""
     for j, member in enumerate(pair):

@@ -1,6 +1,7 @@
 """What several tests need: values of all kinds, small maps, and a strict check of errors."""
 
 import itertools
+import random
 import unittest
 
 from crossties.maps import Map
@@ -51,6 +52,75 @@ def all_maps(posts):
     for many in range(len(pairs) + 1):
         for ties in itertools.combinations(pairs, many):
             yield list(posts), list(ties)
+
+
+def all_small_maps(many):
+    """All maps of at most so many posts, as all_maps tells them; the order of the posts is not that of the letters."""
+    for k in range(many + 1):
+        yield from all_maps("cadb"[:k])
+
+
+def peeled_map():
+    """The map M of part 2 of the document."""
+    return Map(POSTS, [("a", "b"), ("a", "c"), ("b", "c"), ("b", "d"), ("c", "d"), ("d", "e")])
+
+
+def levels_map():
+    """The map M of part 3 of the document."""
+    return Map(POSTS, [("a", "b"), ("b", "c"), ("c", "d"), ("a", "d"), ("a", "c")])
+
+
+def words(many, letter="p"):
+    return [f"{letter}{k}" for k in range(many)]
+
+
+def plain_map(many):
+    """A map without ties."""
+    return Map(words(many), [])
+
+
+def ring_of_posts(many, letter="p"):
+    posts = words(many, letter)
+    return Map(posts, list(zip(posts, posts[1:] + posts[:1])))
+
+
+def band(many, width, posts):
+    """A good map with these posts, in which two are tied if their numbers differ by at most the width."""
+    return Map(posts, [(posts[i], posts[j]) for i in range(many) for j in range(i + 1, min(many, i + width + 1))])
+
+
+def grown_map(many, width, seed):
+    """A good map: each new post is tied to some posts of a crowd of what is there, or to none."""
+    choose = random.Random(seed)
+    posts = words(many)
+    crowds = [[]]
+    ties = []
+    for post in posts:
+        whole = choose.choice(crowds)
+        near = choose.sample(whole, min(len(whole), choose.randrange(width + 1)))
+        ties += [(post, x) for x in near]
+        crowds.append(near + [post])
+    choose.shuffle(posts)
+    return Map(posts, ties)
+
+
+def with_a_long_ring(made, many, seed):
+    """A map with some posts more, which are a long ring, and some ties of these with what was there."""
+    choose = random.Random(seed)
+    ring = ring_of_posts(many, "r")
+    more = [(choose.choice(made.posts()), choose.choice(ring.posts())) for _ in range(3)]
+    posts = ring.posts() + made.posts()
+    choose.shuffle(posts)
+    return Map(posts, made.ties() + ring.ties() + sorted(set(more)))
+
+
+GOOD_MAPS = [
+    plain_map(16), *[band(16, width, words(16)[::-1]) for width in [1, 2, 3, 8, 16]],
+    *[grown_map(many, width, 10 * many + width) for many in [6, 9, 12, 15, 16] for width in [1, 2, 3, 5]]]
+BAD_MAPS = [
+    *[ring_of_posts(many) for many in [4, 5, 6, 7, 16]],
+    *[with_a_long_ring(grown_map(10, 3, many), many, many) for many in [4, 5, 6]],
+    *[with_a_long_ring(band(10, width, words(10)), 6, width) for width in [1, 2, 4]]]
 
 
 class Case(unittest.TestCase):

@@ -13,6 +13,13 @@ FUNCTIONS = {
         "without_tie": 3},
     "lexemes": {"lexemes": 1},
     "maptexts": {"map_text": 1, "read_map": 1},
+    "peelings": {
+        "can_peel": 2, "first_posts": 1, "good": 1, "peeling_of": 1, "judge_peeling": 2, "all_peelings": 1,
+        "later_near": 2},
+    "longrings": {"is_ring": 2, "cross_ties": 2, "judge_ring": 2, "long_ring_of": 1, "all_long_rings": 1},
+    "crowds": {"is_crowd": 2, "crowds_of": 1, "crowds_with": 2, "map_of_crowds": 2},
+    "crowdtrees": {"crowd_tree_of": 1, "judge_crowd_tree": 2, "count_crowd_trees": 1},
+    "distances": {"distance": 3, "levels": 2, "judge_levels": 3, "greatest_distance": 1},
 }
 
 # The numbers count the object itself.
