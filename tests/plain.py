@@ -103,3 +103,102 @@ def distances(posts, ties):
         reached = [(x, z) for x, y in found for z in posts if (y, z) in near and (x, z) not in found]
         found.update({pair: d for pair in reached})
     return found
+
+
+def roads(posts, ties, x, y):
+    """All roads from x to y, in order."""
+    near = near_pairs(posts, ties)
+    many = distances(posts, ties).get((x, y))
+    if many is None:
+        return []
+    rows = [(x,)]
+    for _ in range(many):
+        rows = [row + (z,) for row in rows for z in posts if z != row[-1] and (row[-1], z) in near]
+    return [row for row in rows if row[-1] == y]
+
+
+def ties_within(ties, row):
+    return [(x, y) for x, y in ties if x in row and y in row]
+
+
+def is_open(posts, ties, row):
+    """Whether between any two posts of a list that are in one piece some road has all its posts in the list."""
+    return all(
+        any(set(road) <= set(row) for road in roads(posts, ties, x, y))
+        for x, y in distances(posts, ties) if x in row and y in row)
+
+
+def loose(posts, ties, things, bonds, row):
+    """The bonds whose things are not at near posts; a world is told by its posts, ties, things and bonds."""
+    near = near_pairs(posts, ties)
+    return [(u, v) for u, v in bonds if (row[things.index(u)], row[things.index(v)]) not in near]
+
+
+def stands(posts, ties, things, bonds):
+    """All stands, as tuples of posts."""
+    rows = itertools.product(posts, repeat=len(things))
+    return [row for row in rows if loose(posts, ties, things, bonds, row) == []]
+
+
+def after(world, row, step):
+    """The posts behind a step."""
+    k = world[2].index(step[0])
+    return row[:k] + (step[1],) + row[k + 1:]
+
+
+def steps(world, row):
+    """All steps that can be done at a stand, in order."""
+    posts, ties, things, _ = world
+    near = near_pairs(posts, ties)
+    pairs = [(thing, post) for k, thing in enumerate(things) for post in posts
+             if post != row[k] and (row[k], post) in near]
+    return [step for step in pairs if loose(*world, after(world, row, step)) == []]
+
+
+def walks(world, row):
+    """A dict from each stand to which scripts lead from a stand to its least number of steps."""
+    found = {row: 0}
+    rim = [row]
+    while rim:
+        further = {}
+        for here in rim:
+            for step in steps(world, here):
+                there = after(world, here, step)
+                if there not in found:
+                    further[there] = found[here] + 1
+        found.update(further)
+        rim = list(further)
+    return found
+
+
+def leads(world, row, script):
+    """The posts to which a script leads, or None if it is none."""
+    for step in script:
+        if step not in steps(world, row):
+            return None
+        row = after(world, row, step)
+    return row
+
+
+def in_order(world, rows):
+    """Stands by the numbers of their posts."""
+    return sorted(rows, key=lambda row: [world[0].index(x) for x in row])
+
+
+def orders(roads_by_thing):
+    """All tuples of things in which each one stands as often as its road has steps, in the order of the things."""
+    things = list(roads_by_thing)
+    rows = [()]
+    for _ in range(sum(len(road) - 1 for road in roads_by_thing.values())):
+        rows = [row + (u,) for row in rows for u in things if row.count(u) < len(roads_by_thing[u]) - 1]
+    return rows
+
+
+def order_script(roads_by_thing, order):
+    """The steps that an order of steps tells."""
+    return [(u, roads_by_thing[u][order[:k + 1].count(u)]) for k, u in enumerate(order)]
+
+
+def turns(order):
+    """A dict from each step (thing, number) to its place in an order."""
+    return {(u, order[:k + 1].count(u)): k for k, u in enumerate(order)}

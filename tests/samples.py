@@ -4,7 +4,12 @@ import itertools
 import random
 import unittest
 
+from crossties.lists import Lists
 from crossties.maps import Map
+from crossties.parties import Party
+from crossties.stands import Stand
+
+from tests import plain
 
 POSTS = ["a", "b", "c", "d", "e"]
 TIES = [("b", "a"), ("b", "c"), ("d", "c"), ("b", "d")]
@@ -29,6 +34,8 @@ def no_posts():
         "a" * 12, "a" * 13, "a" * 20000,
         (), ("a",), ("a", "b"), ["a"], [], [["a"]], {}, {"a": "b"}, {"a": ["a"]}, {1: ("a",)},
         Map([], []), example(), [example()], (example(), "a"), {"a": example()}, deep("a"), deep([]),
+        Lists(example(), [["a"]]), Party([], []), Party(["a"], []), Stand(Map([], []), Party([], []), []),
+        Stand(example(), Party(["a"], []), ["a"]), [Stand(example(), Party([], []), ())],
     ]
 
 
@@ -121,6 +128,64 @@ BAD_MAPS = [
     *[ring_of_posts(many) for many in [4, 5, 6, 7, 16]],
     *[with_a_long_ring(grown_map(10, 3, many), many, many) for many in [4, 5, 6]],
     *[with_a_long_ring(band(10, width, words(10)), 6, width) for width in [1, 2, 4]]]
+
+
+def layered_map(sizes):
+    """A map with layers of posts, each of them tied to all those of the next layer; returned with the layers."""
+    layers = [words(many, chr(ord("a") + k)) for k, many in enumerate(sizes)]
+    ties = [(x, y) for one, other in zip(layers, layers[1:]) for x in one for y in other]
+    return Map([x for layer in layers for x in layer], ties), layers
+
+
+def made_stand(world, row):
+    """The stand with these posts of a world, which is a tuple of posts, ties, things and bonds."""
+    posts, ties, things, bonds = world
+    return Stand(Map(posts, ties), Party(things, bonds), row)
+
+
+def random_world(choose, most_posts=5, most_things=3):
+    posts = choose.sample("abcdef"[:most_posts], choose.randrange(1, most_posts + 1))
+    share = choose.choice([0.3, 0.5, 0.7, 0.9])
+    things = choose.sample("uvwxyz"[:most_things], choose.randrange(most_things + 1))
+    ties = [tie for tie in ties_of(posts) if choose.random() < share]
+    bonds = [bond for bond in ties_of(things) if choose.random() < choose.choice([0.4, 0.8])]
+    return posts, ties, things, bonds
+
+
+def random_worlds(many, seed, most_posts=5, most_things=3):
+    choose = random.Random(seed)
+    return [random_world(choose, most_posts, most_things) for _ in range(many)]
+
+
+def good_worlds(many, seed, most_posts=5, most_things=3):
+    """Worlds without long rings, by the words of the document."""
+    choose = random.Random(seed)
+    worlds = []
+    while len(worlds) < many:
+        world = random_world(choose, most_posts, most_things)
+        if plain.long_rings(world[0], world[1]) == []:
+            worlds.append(world)
+    return worlds
+
+
+def some(rows, many, seed):
+    """Some of the rows, or all of them if there are not many more."""
+    rows = list(rows)
+    return rows if len(rows) <= many else random.Random(seed).sample(rows, many)
+
+
+# The examples of the document: posts, ties, things and bonds.
+LINE_WORLD = (
+    ["one", "two", "three", "four"], [("one", "two"), ("two", "three"), ("three", "four")],
+    ["api", "web", "log"], [("api", "web"), ("web", "log")])
+RING_WORLD = (
+    list("abcd"), [("a", "b"), ("a", "d"), ("b", "c"), ("c", "d")],
+    list("rstu"), [("r", "s"), ("r", "u"), ("s", "t"), ("t", "u")])
+FORK_WORLD = (list("abcd"), [("a", "b"), ("b", "c"), ("b", "d"), ("c", "d")], ["u", "v"], [("u", "v")])
+KITE_WORLD = (
+    list("abcd"), [("a", "b"), ("a", "c"), ("b", "c"), ("b", "d"), ("c", "d")],
+    ["u", "v", "w"], [("u", "v"), ("v", "w")])
+ORDER_WORLD = (list("abcd"), [("a", "b"), ("b", "c"), ("c", "d")], ["x", "y", "z"], [("x", "y")])
 
 
 class Case(unittest.TestCase):

@@ -20,6 +20,16 @@ FUNCTIONS = {
     "crowds": {"is_crowd": 2, "crowds_of": 1, "crowds_with": 2, "map_of_crowds": 2},
     "crowdtrees": {"crowd_tree_of": 1, "judge_crowd_tree": 2, "count_crowd_trees": 1},
     "distances": {"distance": 3, "levels": 2, "judge_levels": 3, "greatest_distance": 1},
+    "roads": {"road_of": 3, "all_roads": 3, "count_roads": 3, "road_at": 4, "is_road": 2, "road_number": 2},
+    "lists": {
+        "are_open": 1, "is_open_list": 2, "distance_within": 4, "road_within": 4, "not_open_paper": 1,
+        "judge_not_open": 2},
+    "parties": {"party_pieces": 1, "party_part": 2, "with_bond": 3, "without_bond": 3},
+    "stands": {"loose_bonds": 3, "moved": 3, "gathered": 3},
+    "standtexts": {"party_text": 1, "stand_text": 1, "read_party": 1, "read_stand": 3},
+    "plainwalks": {
+        "within": 2, "reached": 1, "fewest_by_walks": 3, "walk_by_walks": 3, "cheapest_by_walks": 3,
+        "cheapest_walk": 3},
 }
 
 # The numbers count the object itself.
@@ -31,6 +41,13 @@ CLASSES = {
     "maps": {
         "Map": {
             "__init__": 3, "posts": 1, "ties": 1, "number": 2, "is_near": 3, "near": 2, "tied": 2, "__eq__": 2}},
+    "lists": {"Lists": {"__init__": 3, "map": 1, "lists": 1, "posts_of": 2, "__eq__": 2}},
+    "parties": {
+        "Party": {
+            "__init__": 3, "things": 1, "bonds": 1, "number": 2, "bonded": 2, "are_bonded": 3, "__eq__": 2}},
+    "stands": {
+        "Stand": {
+            "__init__": 4, "map": 1, "party": 1, "posts": 1, "post": 2, "things_at": 2, "__eq__": 2}},
 }
 
 

@@ -38,6 +38,7 @@ LIBRARY = {
     "heapq": "heappush heappop heapify heapreplace heappushpop".split(),
     "math": "gcd lcm isqrt comb perm factorial".split(),
     "itertools": "product combinations permutations".split()}
+METHOD_NAMES = ["map"]
 CHANGES = "append clear extend insert pop remove reverse setdefault update".split()
 
 
@@ -60,6 +61,10 @@ def bound_names(tree):
             yield node.id, node
         elif isinstance(node, ast.ExceptHandler) and node.name:
             yield node.name, node
+
+
+def methods_of(tree):
+    return [row for node in ast.walk(tree) if isinstance(node, ast.ClassDef) for row in node.body]
 
 
 def parents(tree):
@@ -164,7 +169,9 @@ class LanguageTest(unittest.TestCase):
                     continue
                 self.assertRegex(bound, r"^(_?[A-Za-z][A-Za-z0-9_]*|_)$", place)
                 self.assertNotIn(bound, BARRED, place)
-                self.assertFalse(hasattr(builtins, bound), place)
+                # A method may have the name of a builtin that the package could not use anyway.
+                if not (bound in METHOD_NAMES and node in methods_of(tree)):
+                    self.assertFalse(hasattr(builtins, bound), place)
         for place, node in self.each(ast.Attribute):
             if not node.attr.startswith("__"):
                 self.assertNotIn(node.attr, BARRED, place)
@@ -232,6 +239,8 @@ class LanguageTest(unittest.TestCase):
                 for node in ast.walk(row):
                     if isinstance(node, ast.Call) and called_name(node) in CHANGES:
                         self.assertNotIn(ast.unparse(node.func.value), heads, place)
+                    if isinstance(node, ast.Call) and called_name(node) in LIBRARY["heapq"]:
+                        self.assertNotIn(ast.unparse(node.args[0]), heads, place)
                     if isinstance(node, ast.Subscript) and not isinstance(node.ctx, ast.Load):
                         self.assertNotIn(ast.unparse(node.value), heads, place)
 

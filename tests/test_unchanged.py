@@ -5,15 +5,25 @@ import copy
 from crossties.crowds import crowds_of, crowds_with, is_crowd, map_of_crowds
 from crossties.crowdtrees import count_crowd_trees, crowd_tree_of, judge_crowd_tree
 from crossties.distances import distance, greatest_distance, judge_levels, levels
-from crossties.errors import BadMade, BadMap, BadText, NotGood, UnknownName
+from crossties.errors import (
+    BadLists, BadMade, BadMap, BadParty, BadRoads, BadStand, BadText, NotGood, TooGreat, UnknownName)
 from crossties.lexemes import lexemes
+from crossties.lists import (
+    Lists, are_open, distance_within, is_open_list, judge_not_open, not_open_paper, road_within)
 from crossties.longrings import all_long_rings, cross_ties, is_ring, judge_ring, long_ring_of
 from crossties.maps import Map, both_near, map_without, part_map, pieces_of
 from crossties.maptexts import map_text, read_map
+from crossties.parties import Party, party_part, party_pieces, with_bond, without_bond
 from crossties.peelings import (
     all_peelings, can_peel, first_posts, good, judge_peeling, later_near, peeling_of)
+from crossties.plainwalks import (
+    cheapest_by_walks, cheapest_walk, fewest_by_walks, reached, walk_by_walks, within)
+from crossties.roads import all_roads, count_roads, is_road, road_at, road_number, road_of
+from crossties.stands import Stand, gathered, loose_bonds, moved
+from crossties.standtexts import party_text, read_party, read_stand, stand_text
 
-from tests.samples import BAD_MAPS, GOOD_MAPS, POSTS, TIES, Case, example, peeled_map, ring_of_posts
+from tests.samples import (
+    BAD_MAPS, FORK_WORLD, GOOD_MAPS, POSTS, TIES, Case, example, levels_map, made_stand, peeled_map, ring_of_posts)
 
 
 class PassedTest(Case):
@@ -72,6 +82,69 @@ class PassedTest(Case):
             judge_levels(peeled_map(), "a", value)
         self.assertEqual(values, before)
 
+    def test_lists_of_lists_are_neither_modified_nor_kept(self):
+        rows = [["c", "b"], ["a", "c"], ("e", "d")]
+        before = copy.deepcopy(rows)
+        made = Lists(levels_map(), rows)
+        is_open_list(levels_map(), rows[0])
+        self.assertEqual(rows, before)
+        rows[0].append("a")
+        rows.pop()
+        self.assertIs(made == Lists(levels_map(), before), True)
+        self.assert_same(made.lists(), [("b", "c"), ("a", "c"), ("d", "e")])
+        wrong = [["a"], ["b", ["c"]]]
+        self.assert_raises(BadLists, {"path": (1, 1)}, Lists, levels_map(), wrong)
+        self.assertEqual(wrong, [["a"], ["b", ["c"]]])
+
+    def test_a_party_keeps_no_list(self):
+        things = list(POSTS)
+        bonds = list(TIES)
+        made = Party(things, bonds)
+        self.assertEqual((things, bonds), (POSTS, TIES))
+        things.reverse()
+        bonds.pop()
+        self.assertIs(made == Party(POSTS, TIES), True)
+        chosen = ["d", "a", "b"]
+        part = party_part(made, chosen)
+        self.assertEqual(chosen, ["d", "a", "b"])
+        chosen.clear()
+        self.assert_same(part.things(), ["a", "b", "d"])
+        wrong = [("a", "b"), ("b", ["a"])]
+        self.assert_raises(BadParty, {"path": (1, 1, 1)}, Party, POSTS, wrong)
+        self.assertEqual(wrong, [("a", "b"), ("b", ["a"])])
+
+    def test_a_stand_keeps_no_list(self):
+        posts = ["a", "b"]
+        made = made_stand(FORK_WORLD, posts)
+        loose_bonds(made.map(), made.party(), posts)
+        self.assertEqual(posts, ["a", "b"])
+        posts[0] = "d"
+        posts.append("d")
+        self.assert_same(made.posts(), ("a", "b"))
+        self.assertIs(made == made_stand(FORK_WORLD, ("a", "b")), True)
+        wrong = ["a", ["b"]]
+        self.assert_raises(BadStand, {"path": (1,)}, made_stand, FORK_WORLD, wrong)
+        self.assertEqual(wrong, ["a", ["b"]])
+        moved(made, "u", "b")
+        self.assert_same(made.posts(), ("a", "b"))
+
+    def test_prices_and_judged_papers_are_not_modified(self):
+        f = made_stand(FORK_WORLD, ("a", "b"))
+        g = made_stand(FORK_WORLD, ("c", "d"))
+        prices = [2, 5]
+        cheapest_by_walks(f, g, prices)
+        cheapest_walk(f, g, prices)
+        self.assertEqual(prices, [2, 5])
+        lists = Lists(levels_map(), [("d", "b")])
+        values = [["a"], (0, "b", "d", [1, 0, 1, 2, None], [0, None]), (["b"], "c", "d"), {"b": ["c"]}]
+        before = copy.deepcopy(values)
+        for value in values:
+            judge_not_open(lists, value)
+            is_road(levels_map(), value)
+            with self.assertRaises(BadRoads):
+                road_number(levels_map(), value)
+        self.assertEqual(values, before)
+
     def test_a_part_keeps_no_list(self):
         chosen = ["d", "b"]
         part = part_map(example(), chosen)
@@ -88,6 +161,15 @@ class ReturnedTest(Case):
             lambda: all_peelings(made), lambda: later_near(made, tuple(POSTS)), lambda: crowds_of(made),
             lambda: crowds_with(made, "b"), lambda: crowd_tree_of(made), lambda: all_long_rings(ring_of_posts(4)),
             lambda: cross_ties(peeled_map(), ("a", "b", "d", "c"))]
+        lists = Lists(levels_map(), [("d", "b"), ("c", "a")])
+        party = Party(POSTS, TIES)
+        f = made_stand(FORK_WORLD, ("a", "b"))
+        g = made_stand(FORK_WORLD, ("c", "d"))
+        calls += [
+            lambda: all_roads(levels_map(), "b", "d"), lists.lists, party.things, party.bonds,
+            lambda: party.bonded("b"), lambda: party_pieces(party), lambda: f.things_at("b"),
+            lambda: loose_bonds(f.map(), f.party(), ["a", "c"]), lambda: within(f, 2), lambda: reached(f),
+            lambda: walk_by_walks(f, g, 3), lambda: cheapest_walk(f, g, [2, 5])]
         for call in calls:
             first = call()
             wanted = list(first)
@@ -99,6 +181,21 @@ class ReturnedTest(Case):
             self.assert_same(call(), wanted)
         self.assertIs(made == example(), True)
         self.assertEqual(map_text(made), map_text(example()))
+        self.assertIs(lists == Lists(levels_map(), [("d", "b"), ("c", "a")]), True)
+        self.assertIs(party == Party(POSTS, TIES), True)
+        self.assertIs(f == made_stand(FORK_WORLD, ("a", "b")), True)
+
+    def test_parties_and_stands_are_not_changed_by_functions(self):
+        party = Party(POSTS, TIES)
+        with_bond(party, "a", "e")
+        without_bond(party, "a", "b")
+        party_part(party, ["a"])
+        read_party(party_text(party))
+        self.assertIs(party == Party(POSTS, TIES), True)
+        f = made_stand(FORK_WORLD, ("a", "b"))
+        read_stand(f.map(), f.party(), stand_text(f))
+        gathered(f.map(), f.party(), "d")
+        self.assertIs(f == made_stand(FORK_WORLD, ("a", "b")), True)
 
     def test_maps_are_not_changed_by_functions(self):
         made = example()
@@ -120,6 +217,41 @@ class ReturnedTest(Case):
                     told = [self.value_or_ring(call, one) for one in [made, other, made]]
                     self.assert_same(told[1], told[0])
                     self.assert_same(told[2], told[0])
+
+    def test_roads_and_lists_of_equal_maps_are_told_the_same(self):
+        for made in GOOD_MAPS[::3] + BAD_MAPS:
+            other = Map(tuple(made.posts()), [(y, x) for x, y in made.ties()[::-1]])
+            x, y = made.posts()[0], made.posts()[-1]
+            rows = [made.posts()[:4], made.posts()[::2], [x, y]]
+            calls = [
+                lambda one: road_of(one, x, y), lambda one: count_roads(one, x, y), lambda one: all_roads(one, x, y),
+                lambda one: are_open(Lists(one, rows)), lambda one: not_open_paper(Lists(one, rows)),
+                lambda one: distance_within(Lists(one, rows), 2, x, y),
+                lambda one: road_within(Lists(one, rows), 0, x, one.posts()[3]),
+                lambda one: road_at(one, x, one.posts()[1], 0), lambda one: road_number(one, (x,))]
+            for call in calls:
+                told = [self.value_or_error(call, one) for one in [made, other, made]]
+                self.assert_same(told[1], told[0])
+                self.assert_same(told[2], told[0])
+
+    def value_or_error(self, call, made):
+        try:
+            return call(made)
+        except TooGreat as error:
+            return "too great", vars(error)
+
+    def test_walks_of_equal_stands_are_told_the_same(self):
+        posts, ties, things, bonds = FORK_WORLD
+        again = (tuple(posts), tuple(ties[::-1]), tuple(things), [(v, u) for u, v in bonds])
+        for row in [("c", "d"), ("d", "c"), ("a", "a")]:
+            told = []
+            for world in [FORK_WORLD, again, FORK_WORLD]:
+                f, g = made_stand(world, ("a", "b")), made_stand(world, row)
+                told.append([
+                    walk_by_walks(f, g, 12), cheapest_walk(f, g, [0, 0]), cheapest_walk(f, g, [3, 3]),
+                    fewest_by_walks(f, g, 12), [stand.posts() for stand in reached(f)]])
+            self.assert_same(told[1], told[0])
+            self.assert_same(told[2], told[0])
 
     def value_or_ring(self, call, made):
         try:
