@@ -89,7 +89,7 @@ def check_members(lists, k, x, y):
     """Raise UnknownName for what is no number of a list, or no post of this list; return its posts."""
     posts = lists.posts_of(k)
     for value in (x, y):
-        if not lists.map().has_post(value) or value not in posts:
+        if value not in posts:
             raise UnknownName(value)
     return posts
 

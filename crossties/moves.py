@@ -1,15 +1,15 @@
 """Where the things of stands can go."""
 
 from crossties.nearness import nears_of
+from crossties.parties import bonded_numbers
 
 
 class Moves:
     """What can be done at the stands of one map and one party, told by the tuples of their posts."""
 
     def __init__(self, stand):
-        party = stand.party()
         self._nears = nears_of(stand.map())
-        self._bonded = [[party.number(other) for other in party.bonded(thing)] for thing in party.things()]
+        self._bonded = bonded_numbers(stand.party())
 
     def posts_for(self, posts, k):
         """Return the list of the posts to which thing number k can go, in the map's order."""

@@ -52,6 +52,11 @@ def party_of(net):
     return Party(net.posts(), net.ties())
 
 
+def bonded_numbers(party):
+    """Return for each thing the list of the numbers of the things bonded to it."""
+    return [[party.number(other) for other in party.bonded(thing)] for thing in party.things()]
+
+
 def party_pieces(party):
     """Return the list of the pieces of a party, each a tuple of things."""
     return pieces_of(party.net())

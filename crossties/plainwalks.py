@@ -15,7 +15,6 @@ class Walks:
 
     def __init__(self, f):
         self._moves = Moves(f)
-        self._start = f.posts()
         self._ahead = {f.posts(): None}
         self._rim = [f.posts()]
 
@@ -119,14 +118,13 @@ def cheapest_found(f, g, prices):
     moves = Moves(f)
     costs = {f.posts(): 0}
     ahead = {f.posts(): None}
-    settled = {}
     queue = [(0, f.posts())]
     while queue:
         cost, posts = heappop(queue)
         if posts == g.posts():
             return cost, script_to(ahead, posts, f.party().things())
-        if posts not in settled:
-            settled[posts] = True
+        # A stand waits again for each better price that is found for it; only the best one goes on.
+        if cost == costs[posts]:
             for k, x, behind in moves.after(posts):
                 total = cost + prices[k]
                 # At the same cost the earlier way stays, so that ways of no cost close no round.

@@ -1,5 +1,6 @@
 """What the document calls things, written down by its words, however long it takes; the tests compare with it."""
 
+import functools
 import itertools
 
 
@@ -97,6 +98,11 @@ def crowd_trees(posts, ties):
 
 def distances(posts, ties):
     """A dict from each pair of posts that hang together to their distance."""
+    return found_distances(tuple(posts), tuple(ties))
+
+
+@functools.lru_cache(maxsize=1000)
+def found_distances(posts, ties):
     near = near_pairs(posts, ties)
     found = {(x, x): 0 for x in posts}
     for d in range(1, len(posts)):

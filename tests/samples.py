@@ -143,6 +143,18 @@ def made_stand(world, row):
     return Stand(Map(posts, ties), Party(things, bonds), row)
 
 
+def unlike_stands(world, row):
+    """Stands with another map than a stand of a world with a tie and two bonded things has, and with another party."""
+    posts, ties, things, bonds = world
+    x = row[0]
+    return [
+        made_stand((posts, ties[:-1], things, []), row), made_stand((posts[::-1], ties, things, bonds), row),
+        made_stand((posts + ["more"], ties, things, bonds), row), made_stand(([x], [], [], []), ()),
+        made_stand(([x], [], things, bonds), [x] * len(things))], [
+        made_stand((posts, ties, things, bonds[1:]), row), made_stand((posts, ties, things[::-1], bonds), row[::-1]),
+        made_stand((posts, ties, [*things, "more"], bonds), (*row, x)), made_stand((posts, ties, [], []), ())]
+
+
 def random_world(choose, most_posts=5, most_things=3):
     posts = choose.sample("abcdef"[:most_posts], choose.randrange(1, most_posts + 1))
     share = choose.choice([0.3, 0.5, 0.7, 0.9])
@@ -165,6 +177,22 @@ def good_worlds(many, seed, most_posts=5, most_things=3):
         world = random_world(choose, most_posts, most_things)
         if plain.long_rings(world[0], world[1]) == []:
             worlds.append(world)
+    return worlds
+
+
+def long_worlds():
+    """Worlds without long rings on which things can be far apart, with several roads, and with two or three things."""
+    maps = [
+        ("abcdefg", "ab ac bc bd cd de df ef eg fg"), ("gcaebdf", "ab ac bc bd cd de df ef eg fg"),
+        ("abcdef", "ab ac bc bd cd ce de df ef"), ("cabed", "ab bc cd de"), ("fadbec", "ab bc cd de bf"),
+        ("abcde", "ab ac bc bd cd de")]
+    parties = [("uv", "uv"), ("vu", ""), ("uvw", "uv vw"), ("wuv", "uw vw uv"), ("uvw", "uw"), ("vwu", "")]
+    worlds = []
+    for posts, ties in maps:
+        for things, bonds in parties:
+            ordered = [bond for bond in ties_of(things) if "".join(sorted(bond)) in bonds.split()]
+            worlds.append((list(posts), [tie for tie in ties_of(posts) if "".join(sorted(tie)) in ties.split()],
+                           list(things), ordered))
     return worlds
 
 

@@ -30,6 +30,18 @@ FUNCTIONS = {
     "plainwalks": {
         "within": 2, "reached": 1, "fewest_by_walks": 3, "walk_by_walks": 3, "cheapest_by_walks": 3,
         "cheapest_walk": 3},
+    "steps": {"is_step": 2, "done": 2, "step_back": 2, "steps_of": 2, "all_steps": 1, "is_stuck": 1},
+    "scripts": {
+        "stands_along": 2, "walked": 2, "script_back": 2, "first_bad": 2, "price": 3, "script_text": 1,
+        "read_script": 1},
+    "ways": {
+        "apart": 2, "price_apart": 3, "at_goal": 2, "fewest_steps": 2, "any_roads": 2, "wrong_road": 3, "way_by": 3,
+        "any_way": 2, "way_within": 3, "judge_way": 3},
+    "between": {
+        "change_of": 3, "begins": 3, "first_steps": 2, "is_between": 3, "all_between": 2, "nearest_stand": 2},
+    "pairs": {
+        "low_high": 6, "pairs_of": 3, "judge_order": 4, "any_order": 3, "order_script": 4, "steps_ahead": 4,
+        "which_ahead": 5},
 }
 
 # The numbers count the object itself.

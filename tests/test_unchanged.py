@@ -2,28 +2,41 @@
 
 import copy
 
+from crossties.between import all_between, begins, change_of, first_steps, nearest_stand
 from crossties.crowds import crowds_of, crowds_with, is_crowd, map_of_crowds
 from crossties.crowdtrees import count_crowd_trees, crowd_tree_of, judge_crowd_tree
 from crossties.distances import distance, greatest_distance, judge_levels, levels
 from crossties.errors import (
-    BadLists, BadMade, BadMap, BadParty, BadRoads, BadStand, BadText, NotGood, TooGreat, UnknownName)
+    BadLists, BadMade, BadMap, BadOrder, BadParty, BadRoads, BadStand, BadStep, BadText, NotGood, TooGreat, UnknownName)
 from crossties.lexemes import lexemes
 from crossties.lists import (
     Lists, are_open, distance_within, is_open_list, judge_not_open, not_open_paper, road_within)
 from crossties.longrings import all_long_rings, cross_ties, is_ring, judge_ring, long_ring_of
 from crossties.maps import Map, both_near, map_without, part_map, pieces_of
 from crossties.maptexts import map_text, read_map
+from crossties.pairs import (
+    any_order, judge_order, low_high, order_script, pairs_of, steps_ahead, which_ahead)
 from crossties.parties import Party, party_part, party_pieces, with_bond, without_bond
 from crossties.peelings import (
     all_peelings, can_peel, first_posts, good, judge_peeling, later_near, peeling_of)
 from crossties.plainwalks import (
     cheapest_by_walks, cheapest_walk, fewest_by_walks, reached, walk_by_walks, within)
 from crossties.roads import all_roads, count_roads, is_road, road_at, road_number, road_of
+from crossties.scripts import (
+    first_bad, price, read_script, script_back, script_text, stands_along, walked)
 from crossties.stands import Stand, gathered, loose_bonds, moved
 from crossties.standtexts import party_text, read_party, read_stand, stand_text
+from crossties.steps import all_steps, is_step, steps_of
+from crossties.ways import (
+    any_roads, any_way, apart, at_goal, judge_way, price_apart, way_by, way_within, wrong_road)
 
 from tests.samples import (
-    BAD_MAPS, FORK_WORLD, GOOD_MAPS, POSTS, TIES, Case, example, levels_map, made_stand, peeled_map, ring_of_posts)
+    BAD_MAPS, FORK_WORLD, GOOD_MAPS, KITE_WORLD, POSTS, TIES, Case, example, levels_map, long_worlds, made_stand,
+    peeled_map, ring_of_posts)
+
+
+def kite():
+    return made_stand(KITE_WORLD, ("a", "b", "b")), made_stand(KITE_WORLD, ("d", "d", "c"))
 
 
 class PassedTest(Case):
@@ -145,6 +158,51 @@ class PassedTest(Case):
                 road_number(levels_map(), value)
         self.assertEqual(values, before)
 
+    def test_scripts_roads_and_orders_are_not_modified(self):
+        f, g = kite()
+        script = [("u", "c"), ("v", "d"), ("w", "c"), ("u", "d")]
+        roads = [("a", "c", "d"), ("b", "d"), ("b", "c")]
+        order = ["u", "v", "w", "u"]
+        prices = [1, 2, 3]
+        stands = [g, f]
+        values = (script, roads, order, prices, stands)
+        before = tuple(list(value) for value in values)
+        for call in [stands_along, walked, script_back, first_bad]:
+            call(f, script)
+        script_text(script)
+        price(f.party(), prices, script)
+        price_apart(f, g, prices)
+        judge_way(f, g, script)
+        wrong_road(f, g, roads)
+        way_by(f, g, roads)
+        nearest_stand(f, stands)
+        for call in [judge_order, order_script]:
+            call(f, g, roads, order)
+        for call in [pairs_of, any_order]:
+            call(f, g, roads)
+        low_high(f, g, roads, "v", 1, "u")
+        which_ahead(f, g, roads, ("u", 1), ("v", 1))
+        self.assertEqual(values, before)
+
+    def test_wrong_scripts_roads_and_orders_are_not_modified(self):
+        f, g = kite()
+        values = [[("u", "c"), ["v", "d"]], [("a", "c", "d"), ["b", "d"], ("b", "c")], ["u", ["v"]], ["v", "u"], {"u": []}]
+        before = copy.deepcopy(values)
+        for value in values:
+            first_bad(f, value)
+            judge_way(f, g, value)
+            wrong_road(f, g, value)
+            is_step(f, value)
+            judge_order(f, g, any_roads(f, g), value)
+            for kind, call in [
+                    (BadRoads, lambda value=value: way_by(f, g, value)), (BadStep, lambda value=value: begins(f, g, value)),
+                    (BadStep, lambda value=value: stands_along(f, value)),
+                    (BadOrder, lambda value=value: order_script(f, g, any_roads(f, g), value)),
+                    (UnknownName, lambda value=value: steps_ahead(f, g, any_roads(f, g), value))]:
+                with self.assertRaises(kind):
+                    call()
+        self.assertEqual(values, before)
+
     def test_a_part_keeps_no_list(self):
         chosen = ["d", "b"]
         part = part_map(example(), chosen)
@@ -170,6 +228,18 @@ class ReturnedTest(Case):
             lambda: party.bonded("b"), lambda: party_pieces(party), lambda: f.things_at("b"),
             lambda: loose_bonds(f.map(), f.party(), ["a", "c"]), lambda: within(f, 2), lambda: reached(f),
             lambda: walk_by_walks(f, g, 3), lambda: cheapest_walk(f, g, [2, 5])]
+        script = [("u", "b"), ("v", "d"), ("u", "c")]
+        start, goal = kite()
+        roads = any_roads(start, goal)
+        whole = Lists(start.map(), [start.map().posts()] * 3)
+        calls += [
+            lambda: all_steps(f), lambda: steps_of(f, "u"), lambda: stands_along(f, script),
+            lambda: script_back(f, script), lambda: read_script("script {u b;}"),
+            lambda: at_goal(start, made_stand(KITE_WORLD, ("a", "c", "b"))), lambda: any_roads(start, goal),
+            lambda: way_by(start, goal, roads), lambda: any_way(start, goal), lambda: way_within(start, goal, whole),
+            lambda: first_steps(start, goal), lambda: all_between(start, goal), lambda: pairs_of(start, goal, roads),
+            lambda: order_script(start, goal, roads, any_order(start, goal, roads)),
+            lambda: steps_ahead(start, goal, roads, ("u", 2))]
         for call in calls:
             first = call()
             wanted = list(first)
@@ -252,6 +322,29 @@ class ReturnedTest(Case):
                     fewest_by_walks(f, g, 12), [stand.posts() for stand in reached(f)]])
             self.assert_same(told[1], told[0])
             self.assert_same(told[2], told[0])
+
+    def test_ways_of_equal_stands_are_told_the_same(self):
+        for posts, ties, things, bonds in long_worlds()[::4]:
+            again = (tuple(posts), tuple([(y, x) for x, y in ties[::-1]]), tuple(things), [(v, u) for u, v in bonds])
+            for x, y in [(posts[0], posts[-1]), (posts[-1], posts[1])]:
+                told = []
+                for world in [(posts, ties, things, bonds), again, (posts, ties, things, bonds)]:
+                    f, g = made_stand(world, [x] * len(things)), made_stand(world, [y] * len(things))
+                    roads = any_roads(f, g)
+                    lists = Lists(f.map(), [f.map().posts()] * len(things))
+                    told.append([
+                        roads, any_way(f, g), way_by(f, g, roads), way_within(f, g, lists), any_order(f, g, roads),
+                        first_steps(f, g), pairs_of(f, g, roads), [change_of(f, g, step) for step in all_steps(f)]])
+                self.assert_same(told[1], told[0])
+                self.assert_same(told[2], told[0])
+
+    def test_stands_are_not_changed_by_ways(self):
+        f, g = kite()
+        way_by(f, g, any_roads(f, g))
+        walked(f, any_way(f, g))
+        self.assert_same(apart(f, g), 4)
+        self.assert_same([f.posts(), g.posts()], [("a", "b", "b"), ("d", "d", "c")])
+        self.assertEqual((f, g), kite())
 
     def value_or_ring(self, call, made):
         try:
