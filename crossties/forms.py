@@ -18,6 +18,14 @@ class Reading:
         """Tell whether the next lexeme is this word or sign."""
         return self._rows[self._at][1] == lexeme
 
+    def take_one_of(self, choice):
+        """Read one of these words or signs, and return it."""
+        _, found, place = self._rows[self._at]
+        if found not in choice:
+            raise BadText(place)
+        self._at += 1
+        return found
+
     def take(self, lexeme):
         """Read this very word or sign."""
         if not self.comes(lexeme):

@@ -208,3 +208,9 @@ def order_script(roads_by_thing, order):
 def turns(order):
     """A dict from each step (thing, number) to its place in an order."""
     return {(u, order[:k + 1].count(u)): k for k, u in enumerate(order)}
+
+
+def doable_orders(world, row, roads):
+    """All orders of steps that are a script from a stand on, in the order of the things."""
+    by_thing = dict(zip(world[2], roads))
+    return [order for order in orders(by_thing) if leads(world, row, order_script(by_thing, order)) is not None]

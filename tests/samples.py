@@ -4,6 +4,8 @@ import itertools
 import random
 import unittest
 
+from crossties.console import Console
+from crossties.house import House
 from crossties.lists import Lists
 from crossties.maps import Map
 from crossties.parties import Party
@@ -36,6 +38,7 @@ def no_posts():
         Map([], []), example(), [example()], (example(), "a"), {"a": example()}, deep("a"), deep([]),
         Lists(example(), [["a"]]), Party([], []), Party(["a"], []), Stand(Map([], []), Party([], []), []),
         Stand(example(), Party(["a"], []), ["a"]), [Stand(example(), Party([], []), ())],
+        House(Stand(example(), Party(["a"], []), ["a"])), Console(House(Stand(Map([], []), Party([], []), []))),
     ]
 
 
@@ -194,6 +197,19 @@ def long_worlds():
             worlds.append((list(posts), [tie for tie in ties_of(posts) if "".join(sorted(tie)) in ties.split()],
                            list(things), ordered))
     return worlds
+
+
+def road_tasks(worlds, seed, most):
+    """Two stands and roads of each world, with at most so many steps in all."""
+    choose = random.Random(seed)
+    for world in worlds:
+        stands = plain.stands(*world)
+        for row, there in zip(some(stands, 8, seed), some(stands, 8, seed + 1)):
+            rows = [plain.roads(world[0], world[1], x, y) for x, y in zip(row, there)]
+            if [] not in rows:
+                roads = [choose.choice(choices) for choices in rows]
+                if sum(len(road) - 1 for road in roads) <= most:
+                    yield world, row, there, roads
 
 
 def some(rows, many, seed):

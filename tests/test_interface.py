@@ -42,7 +42,29 @@ FUNCTIONS = {
     "pairs": {
         "low_high": 6, "pairs_of": 3, "judge_order": 4, "any_order": 3, "order_script": 4, "steps_ahead": 4,
         "which_ahead": 5},
+    "ordercounts": {
+        "count_orders": 3, "moments": 3, "order_at": 4, "order_number": 4, "next_order": 4, "drawn_order": 4,
+        "orders_beginning": 4},
+    "breaking": {"breaking": 1, "judge_breaking": 2},
+    "changes": {
+        "changed": 3, "can_untie": 3, "can_tie": 3, "change_paper": 3, "judge_change": 4, "good_changes": 1},
+    "makers": {
+        "map_of_kinds": 1, "map_of_spans": 1, "map_of_window": 2, "map_of_subtrees": 2, "kinds_peeling": 1,
+        "spans_peeling": 1, "window_peeling": 2, "subtrees_peeling": 2, "subtree_form": 1},
+    "matrices": {
+        "near_table": 1, "table_product": 2, "table_power": 2, "row_counts": 2, "row_count": 2, "ring_count": 2},
+    "standcounts": {
+        "count_stands": 2, "count_within": 3, "chance_of_post": 4, "mean_apart": 2, "count_amid": 2, "count_ways": 2,
+        "farthest": 2},
+    "standnumbers": {
+        "stand_at": 3, "stand_number": 1, "next_stand": 1, "stands_from": 2, "drawn_stand": 3, "stand_within_at": 4,
+        "number_within": 2},
+    "goals": {"gaps_after": 3, "wasted": 3, "barred_things": 3},
+    "acts": {"act_word": 2, "state_after": 2, "good_acts": 1},
 }
+
+# Parameters behind a star, with their default values.
+KEYWORDS = {"standnumbers": {"stands_from": {"number": 0, "many": 10}}}
 
 # The numbers count the object itself.
 CLASSES = {
@@ -60,6 +82,12 @@ CLASSES = {
     "stands": {
         "Stand": {
             "__init__": 4, "map": 1, "party": 1, "posts": 1, "post": 2, "things_at": 2, "__eq__": 2}},
+    "house": {
+        "House": {
+            "__init__": 2, "stand": 1, "goal": 1, "nails": 1, "state": 1, "do": 2, "undo": 1, "redo": 1, "done": 1,
+            "undone": 1, "tried": 2, "would": 2, "paid": 1, "gap": 1, "waste": 1, "left": 1, "way": 1, "next_steps": 1,
+            "keep": 2, "marks": 1, "marked": 2, "gap_to": 2, "twin": 1, "__eq__": 2}},
+    "console": {"Console": {"__init__": 2, "house": 1, "say": 2}},
 }
 
 
@@ -70,6 +98,12 @@ def body_of(name):
 def arities(body):
     """The functions that are defined in a body, with the number of their arguments."""
     return {node.name: len(node.args.args) for node in body if isinstance(node, ast.FunctionDef)}
+
+
+def keywords(node):
+    """The parameters of a function behind a star, with their default values."""
+    names = [part.arg for part in node.args.kwonlyargs]
+    return dict(zip(names, [ast.literal_eval(value) for value in node.args.kw_defaults]))
 
 
 class InterfaceTest(unittest.TestCase):
@@ -87,3 +121,11 @@ class InterfaceTest(unittest.TestCase):
                 defined = arities(found[name])
                 for method, many in methods.items():
                     self.assertEqual(defined.get(method), many, f"{module}.{name}.{method}")
+
+    def test_parameters_behind_a_star(self):
+        for module in FUNCTIONS:
+            wanted = KEYWORDS.get(module, {})
+            for node in body_of(module):
+                if isinstance(node, ast.FunctionDef):
+                    self.assertEqual(keywords(node), wanted.get(node.name, {}), f"{module}.{node.name}")
+                    self.assertEqual(node.args.defaults, [])

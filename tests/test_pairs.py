@@ -17,7 +17,7 @@ from crossties.ways import any_roads, judge_way
 from tests import plain
 from tests.samples import (
     BAD_MAPS, GOOD_MAPS, KITE_WORLD, ORDER_WORLD, RING_WORLD, Case, band, good_worlds, long_worlds, made_stand, no_lists,
-    no_posts, some, ties_of, unlike_stands, words)
+    no_posts, road_tasks, some, ties_of, unlike_stands, words)
 
 START = ("a", "b", "d")
 END = ("c", "d", "c")
@@ -28,19 +28,6 @@ STEPS = [("x", 1), ("x", 2), ("y", 1), ("y", 2), ("z", 1)]
 
 def sample():
     return made_stand(ORDER_WORLD, START), made_stand(ORDER_WORLD, END), ROADS
-
-
-def road_tasks(worlds, seed, most):
-    """Two stands and roads of each world, with at most so many steps in all."""
-    choose = random.Random(seed)
-    for world in worlds:
-        stands = plain.stands(*world)
-        for row, there in zip(some(stands, 8, seed), some(stands, 8, seed + 1)):
-            rows = [plain.roads(world[0], world[1], x, y) for x, y in zip(row, there)]
-            if [] not in rows:
-                roads = [choose.choice(choices) for choices in rows]
-                if sum(len(road) - 1 for road in roads) <= most:
-                    yield world, row, there, roads
 
 
 def low_and_high(world, road, number, other_road):
@@ -63,12 +50,6 @@ def plain_pairs(world, roads):
                     found |= {((u, low), (v, j))} if low > 0 else set()
                     found |= {((v, j), (u, high + 1))} if high + 1 < len(other_road) else set()
     return sorted(found, key=lambda pair: [(things.index(u), j) for u, j in pair])
-
-
-def doable_orders(world, row, roads):
-    by_thing = dict(zip(world[2], roads))
-    return [order for order in plain.orders(by_thing)
-            if plain.leads(world, row, plain.order_script(by_thing, order)) is not None]
 
 
 class ExampleTest(Case):
@@ -169,7 +150,7 @@ class SmallWorldsTest(Case):
         for world, row, there, roads in road_tasks(good_worlds(40, 53) + long_worlds(), 53, 6):
             f, g = made_stand(world, row), made_stand(world, there)
             by_thing = dict(zip(world[2], roads))
-            doable = doable_orders(world, row, roads)
+            doable = plain.doable_orders(world, row, roads)
             pairs = plain_pairs(world, roads)
             self.assertIn(any_order(f, g, roads), doable)
             for order in plain.orders(by_thing):
@@ -189,7 +170,7 @@ class SmallWorldsTest(Case):
     def test_what_is_always_ahead(self):
         for world, row, there, roads in road_tasks(good_worlds(40, 54) + long_worlds(), 54, 6):
             f, g = made_stand(world, row), made_stand(world, there)
-            turns = [plain.turns(order) for order in doable_orders(world, row, roads)]
+            turns = [plain.turns(order) for order in plain.doable_orders(world, row, roads)]
             steps = [(thing, j) for thing, road in zip(world[2], roads) for j in range(1, len(road))]
             for step in steps:
                 ahead = [other for other in steps if other != step and all(turn[other] < turn[step] for turn in turns)]
