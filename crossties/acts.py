@@ -240,8 +240,6 @@ def state_after(state, act):
 
 def good_acts(state):
     """Return the list of the acts that tie, and then of those that untie, behind which the map has no long ring."""
-    the_map = state[0].map()
-    changes = good_changes(the_map)
-    ties = [("tie", x, y) for x, y in changes if not the_map.is_near(x, y)]
-    unties = [("untie", x, y) for x, y in changes if the_map.is_near(x, y)]
-    return ties + [act for act in unties if act_word(state, act) is None]
+    changes = good_changes(state[0].map())
+    acts = [(word, x, y) for word in ("tie", "untie") for x, y in changes]
+    return [act for act in acts if act_word(state, act) is None]

@@ -16,18 +16,14 @@ def changed(the_map, x, y):
     return without_tie(the_map, x, y) if the_map.is_near(x, y) else with_tie(the_map, x, y)
 
 
-def tied_to_both(the_map, x, y):
-    """Return the list of the posts that are tied to both of two posts."""
-    return [z for z in both_near(the_map, x, y) if z not in (x, y)]
-
-
 def can_untie(the_map, x, y):
     """Tell whether the tie of two posts of a good map can be taken off, so that the map stays good."""
     the_map.check_posts((x, y))
     good_peeling(the_map)
     if x == y or not the_map.is_near(x, y):
         return False
-    return all_near(nears_of(the_map), tied_to_both(the_map, x, y))
+    # The two themselves are near each post that is tied to both, so that it does not matter that they are there.
+    return all_near(nears_of(the_map), both_near(the_map, x, y))
 
 
 def can_tie(the_map, x, y):
@@ -36,7 +32,7 @@ def can_tie(the_map, x, y):
     good_peeling(the_map)
     if the_map.is_near(x, y):
         return False
-    return distance(map_without(the_map, tied_to_both(the_map, x, y)), x, y) is None
+    return distance(map_without(the_map, both_near(the_map, x, y)), x, y) is None
 
 
 def change_paper(the_map, x, y):

@@ -141,7 +141,7 @@ class House:
 
     def twin(self):
         """Return an equal house that goes its own way."""
-        other = House(self._states[0][0])
+        other = House(self.stand())
         other._states = list(self._states)
         other._done = list(self._done)
         other._undone = list(self._undone)

@@ -24,6 +24,7 @@ class Moments:
         return rims
 
     def _count_from(self, moment):
+        """Return how many orders lead on from a moment, if it is known for those that are one step further."""
         if moment == self._last:
             return 1
         return sum([self._counts[self.after(moment, k)] for k in self.movable(moment)])
@@ -33,6 +34,7 @@ class Moments:
         return [k for k, done in enumerate(moment) if done < self._last[k] and self._is_free(moment, (k, done + 1))]
 
     def _is_free(self, moment, step):
+        """Tell whether all steps that must be ahead of a step are done at a moment."""
         return all([moment[n] >= j for n, j in self._needs.get(step, [])])
 
     def after(self, moment, k):

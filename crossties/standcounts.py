@@ -56,7 +56,8 @@ def mean_apart(the_map, party):
     far = 0
     for shares in post_shares(tally):
         far += sum([shares[x] * shares[y] * levels[x][y] for x in shares for y in shares])
-    return fraction(far, tally.total() * tally.total())
+    total = tally.total()
+    return fraction(far, total * total)
 
 
 def post_shares(tally):
